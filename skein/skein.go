@@ -1,0 +1,70 @@
+// Package skein: a text that several write: see DOC.md.
+package skein
+
+import (
+	"skein/api"
+	"skein/fault"
+	"skein/rule"
+	"skein/sha"
+	"skein/wire"
+)
+
+// Sum is SHA-256 (P3).
+func Sum(b []byte) [32]byte { return sha.Sum(b) }
+
+// Key of an operation (P3).
+func Key(client uint32, clock uint32) uint64 { return rule.Key(client, clock) }
+
+// Pack makes a frame's bytes (P4).
+func Pack(f api.Frame) ([]byte, api.Errno) {
+	b, err := wire.Pack(f)
+	return b, fault.Number(err)
+}
+
+// Unpack reads a frame (P4).
+func Unpack(b []byte) (api.Frame, api.Errno) {
+	f, err := wire.Unpack(b)
+	return f, fault.Number(err)
+}
+
+// Replica is one who writes, with what is known to them.
+type Replica struct{}
+
+// New makes a replica that knows nothing (P5).
+func New(client uint32) (*Replica, api.Errno) { return nil, api.OK }
+
+// Insert writes a character (P6).
+func (r *Replica) Insert(at int, c rune) (api.Op, api.Errno) { return api.Op{}, api.OK }
+
+// Delete takes one away (P6).
+func (r *Replica) Delete(at int) (api.Op, api.Errno) { return api.Op{}, api.OK }
+
+// Add takes an operation of anybody (P7).
+func (r *Replica) Add(o api.Op) api.Errno { return api.OK }
+
+// Text tells the text (P8).
+func (r *Replica) Text() string { return "" }
+
+// Ops tells all operations that are there (P8).
+func (r *Replica) Ops() []api.Op { return nil }
+
+// Waiting tells how many operations wait (P7).
+func (r *Replica) Waiting() int { return 0 }
+
+// Root tells the digest of a range of keys (P9).
+func (r *Replica) Root(lo uint64, hi uint64) api.Digest { return api.Digest{} }
+
+// Start begins a session (P10).
+func (r *Replica) Start(session uint32) api.Errno { return api.OK }
+
+// Tick tells what is to be sent (P10).
+func (r *Replica) Tick() [][]byte { return nil }
+
+// Heard takes a frame; what is to be sent then (P11).
+func (r *Replica) Heard(b []byte) ([][]byte, api.Errno) { return nil, api.OK }
+
+// Done tells whether the session has found that there is nothing to do any more (P10).
+func (r *Replica) Done() bool { return false }
+
+// Clash tells two texts of one digest, by which two replicas may take a range for the same (P12).
+func (r *Replica) Clash(other *Replica, lo uint64, hi uint64) ([]byte, []byte) { return nil, nil }
