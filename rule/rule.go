@@ -28,6 +28,9 @@ func IsChar(c rune) bool {
 	return c >= 32 && c <= api.MaxChar && (c < 0xd800 || c > 0xdfff)
 }
 
+// IsClient tells whether somebody of this number may write.
+func IsClient(client uint32) bool { return from1(client, api.MaxClient) }
+
 func from1(n uint32, most uint32) bool { return n >= 1 && n <= most }
 
 // RightOp tells what is wrong with an operation; nil, if it is right.
@@ -39,7 +42,7 @@ func opFault(o api.Op) error {
 	switch {
 	case o.Kind != api.Insert && o.Kind != api.Delete:
 		return fault.In("Kind", fault.Bounds)
-	case !from1(o.Client, api.MaxClient):
+	case !IsClient(o.Client):
 		return fault.In("Client", fault.Bounds)
 	case !from1(o.Clock, api.MaxClock):
 		return fault.In("Clock", fault.Bounds)

@@ -2,7 +2,10 @@
 package skein
 
 import (
+	"sync"
+
 	"skein/api"
+	"skein/book"
 	"skein/fault"
 	"skein/rule"
 	"skein/sha"
@@ -28,28 +31,60 @@ func Unpack(b []byte) (api.Frame, api.Errno) {
 }
 
 // Replica is one who writes, with what is known to them.
-type Replica struct{}
+type Replica struct {
+	lock sync.Mutex // for all that is below
+	book book.Book
+}
 
 // New makes a replica that knows nothing (P5).
-func New(client uint32) (*Replica, api.Errno) { return nil, api.OK }
+func New(client uint32) (*Replica, api.Errno) {
+	if !rule.IsClient(client) {
+		return nil, api.ErrClient
+	}
+	return &Replica{book: book.New(client)}, api.OK
+}
 
 // Insert writes a character (P6).
-func (r *Replica) Insert(at int, c rune) (api.Op, api.Errno) { return api.Op{}, api.OK }
+func (r *Replica) Insert(at int, c rune) (api.Op, api.Errno) {
+	r.lock.Lock()
+	defer r.lock.Unlock()
+	return r.book.Insert(at, c)
+}
 
 // Delete takes one away (P6).
-func (r *Replica) Delete(at int) (api.Op, api.Errno) { return api.Op{}, api.OK }
+func (r *Replica) Delete(at int) (api.Op, api.Errno) {
+	r.lock.Lock()
+	defer r.lock.Unlock()
+	return r.book.Delete(at)
+}
 
 // Add takes an operation of anybody (P7).
-func (r *Replica) Add(o api.Op) api.Errno { return api.OK }
+func (r *Replica) Add(o api.Op) api.Errno {
+	r.lock.Lock()
+	defer r.lock.Unlock()
+	return r.book.Add(o)
+}
 
 // Text tells the text (P8).
-func (r *Replica) Text() string { return "" }
+func (r *Replica) Text() string {
+	r.lock.Lock()
+	defer r.lock.Unlock()
+	return r.book.Text()
+}
 
 // Ops tells all operations that are there (P8).
-func (r *Replica) Ops() []api.Op { return nil }
+func (r *Replica) Ops() []api.Op {
+	r.lock.Lock()
+	defer r.lock.Unlock()
+	return r.book.Ops()
+}
 
 // Waiting tells how many operations wait (P7).
-func (r *Replica) Waiting() int { return 0 }
+func (r *Replica) Waiting() int {
+	r.lock.Lock()
+	defer r.lock.Unlock()
+	return r.book.Waiting()
+}
 
 // Root tells the digest of a range of keys (P9).
 func (r *Replica) Root(lo uint64, hi uint64) api.Digest { return api.Digest{} }
