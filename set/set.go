@@ -40,6 +40,15 @@ func (s Set) Get(key uint64) (api.Op, bool) {
 	return e.op, ok
 }
 
+// Range is another set, of those operations alone whose keys are from lo on and below hi.
+func (s Set) Range(lo uint64, hi uint64) Set { return Set{s.tree.Range(lo, hi)} }
+
+// Parts are the middle, and what is ahead of it and behind it; not ok, if there is no operation.
+func (s Set) Parts() (ahead Set, middle api.Op, behind Set, ok bool) {
+	a, m, b, ok := s.tree.Parts()
+	return Set{a}, m.op, Set{b}, ok
+}
+
 // Len: how many operations there are.
 func (s Set) Len() int { return s.tree.Len() }
 

@@ -43,3 +43,42 @@ func TestSet(t *testing.T) {
 		t.Errorf("Get of what is not there = %+v, %v", o, ok)
 	}
 }
+
+func TestRange(t *testing.T) {
+	var s Set
+	for _, o := range []api.Op{op(2, 1), op(1, 1), op(1, 3), op(1, 2)} {
+		s = s.With(o)
+	}
+	for _, c := range []struct {
+		lo, hi uint64
+		want   []api.Op
+	}{
+		{0, 1 << 40, []api.Op{op(1, 1), op(1, 2), op(1, 3), op(2, 1)}},
+		{1<<20 + 2, 1<<21 + 1, []api.Op{op(1, 2), op(1, 3)}},
+		{1<<20 + 4, 1<<64 - 1, []api.Op{op(2, 1)}},
+		{1<<20 + 1, 1<<20 + 1, nil},
+		{1 << 40, 0, nil},
+	} {
+		if got := s.Range(c.lo, c.hi).Ops(); !slices.Equal(got, c.want) {
+			t.Errorf("from %d to %d: %+v, want %+v", c.lo, c.hi, got, c.want)
+		}
+	}
+}
+
+// TestParts: of these keys the ranks begin with 41, ab, 68 and 14.
+func TestParts(t *testing.T) {
+	var s Set
+	if a, m, b, ok := s.Parts(); ok || m != (api.Op{}) || a.Len() != 0 || b.Len() != 0 {
+		t.Errorf("the parts of nothing: %+v, %+v, %+v", a.Ops(), m, b.Ops())
+	}
+	for _, o := range []api.Op{op(1, 1), op(1, 2), op(1, 3), op(2, 1)} {
+		s = s.With(o)
+	}
+	a, m, b, ok := s.Parts()
+	if !ok || m != op(1, 2) || !slices.Equal(a.Ops(), []api.Op{op(1, 1)}) || !slices.Equal(b.Ops(), []api.Op{op(1, 3), op(2, 1)}) {
+		t.Errorf("the parts: %+v, %+v, %+v", a.Ops(), m, b.Ops())
+	}
+	if a, m, b, ok := b.Parts(); !ok || m != op(1, 3) || a.Len() != 0 || !slices.Equal(b.Ops(), []api.Op{op(2, 1)}) {
+		t.Errorf("the parts behind: %+v, %+v, %+v", a.Ops(), m, b.Ops())
+	}
+}

@@ -17,6 +17,7 @@ func TestCallsWait(t *testing.T) {
 		"Text":    func() { r.Text() },
 		"Ops":     func() { r.Ops() },
 		"Waiting": func() { r.Waiting() },
+		"Root":    func() { r.Root(0, api.MaxKey) },
 	} {
 		r.Insert(0, 'a')
 		ended := make(chan int)

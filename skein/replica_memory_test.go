@@ -70,13 +70,14 @@ func TestOpsStay(t *testing.T) {
 	}
 }
 
-// TestAskingLeaves: P2: Text, Ops and Waiting change nothing.
+// TestAskingLeaves: P2: Text, Ops, Waiting and Root change nothing.
 func TestAskingLeaves(t *testing.T) {
 	r, like := busy(t), busy(t)
 	for range 3 {
 		r.Text()
 		r.Ops()
 		r.Waiting()
+		r.Root(0, top)
 	}
 	inserts(t, r, 0, 'x', insert(3, 7, 7, 0, 'x'))
 	inserts(t, like, 0, 'x', insert(3, 7, 7, 0, 'x'))

@@ -87,7 +87,11 @@ func (r *Replica) Waiting() int {
 }
 
 // Root tells the digest of a range of keys (P9).
-func (r *Replica) Root(lo uint64, hi uint64) api.Digest { return api.Digest{} }
+func (r *Replica) Root(lo uint64, hi uint64) api.Digest {
+	r.lock.Lock()
+	defer r.lock.Unlock()
+	return r.book.Root(lo, hi)
+}
 
 // Start begins a session (P10).
 func (r *Replica) Start(session uint32) api.Errno { return api.OK }

@@ -41,6 +41,21 @@ func (t Tree[I]) Get(key uint64) (I, bool) {
 	return n.item, true
 }
 
+// Range is another tree, of those items alone whose keys are from lo on and below hi.
+func (t Tree[I]) Range(lo uint64, hi uint64) Tree[I] {
+	_, from := t.top.cut(lo)
+	in, _ := from.cut(hi)
+	return Tree[I]{in}
+}
+
+// Parts are the tree's middle, which is the item of the greatest rank (of several the one with the greatest key), and what is ahead of it and behind it; not ok, if there is nothing.
+func (t Tree[I]) Parts() (ahead Tree[I], middle I, behind Tree[I], ok bool) {
+	if t.top == nil {
+		return ahead, middle, behind, false
+	}
+	return Tree[I]{t.top.ahead}, t.top.item, Tree[I]{t.top.behind}, true
+}
+
 // Len: how many items there are.
 func (t Tree[I]) Len() int { return t.top.count() }
 
