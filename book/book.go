@@ -6,7 +6,6 @@ import (
 	"slices"
 
 	"skein/api"
-	"skein/digest"
 	"skein/fault"
 	"skein/rule"
 	"skein/set"
@@ -32,8 +31,8 @@ func (b *Book) Ops() []api.Op { return b.there.Ops() }
 // Waiting: how many wait.
 func (b *Book) Waiting() int { return len(b.waiting) }
 
-// Root is the digest of the range of those that are there.
-func (b *Book) Root(lo uint64, hi uint64) api.Digest { return digest.Of(b.there.Range(lo, hi)) }
+// Range: those that are there and whose keys are from lo on and below hi.
+func (b *Book) Range(lo uint64, hi uint64) set.Set { return b.there.Range(lo, hi) }
 
 // Insert writes a character at a place of the text.
 func (b *Book) Insert(at int, c rune) (api.Op, api.Errno) {

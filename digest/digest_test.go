@@ -48,3 +48,28 @@ func TestMiddleText(t *testing.T) {
 		}
 	}
 }
+
+// TestClash: unlike sets, the same set, one whose digest is that of none, and two of one text. (426's and 10's operations were found by trying.)
+func TestClash(t *testing.T) {
+	var none set.Set
+	other := none.With(api.Op{Kind: api.Insert, Client: 1, Clock: 1, Stamp: 1, Char: 'a'})
+	x := api.Op{Kind: api.Insert, Client: 426, Clock: 1, Stamp: 1, Char: 128460}
+	y := api.Op{Kind: api.Insert, Client: 10, Clock: 1, Stamp: 1, Char: 62717}
+	hollow := "\x01\x6e\x34\x0b\x3f\x14\x3b\x6e\x34\x0b"
+	for _, c := range []struct {
+		x, y         set.Set
+		textX, textY string
+	}{
+		{none, none, "", ""},
+		{other, other, "", ""},
+		{other, none, "", ""},
+		{none.With(x), other, "", ""},
+		{none.With(x), none, hollow, "\x00"},
+		{none, none.With(y), "\x00", hollow},
+		{none.With(x), none.With(y), "\x02\x01\xaa\x03\x01\x01\x00\xcc\xeb\x07", "\x02\x01\x0a\x01\x01\x00\xfd\xe9\x03"},
+	} {
+		if p, q := Clash(c.x, c.y); string(p) != c.textX || string(q) != c.textY {
+			t.Errorf("Clash = %x, %x, want %x, %x", p, q, c.textX, c.textY)
+		}
+	}
+}

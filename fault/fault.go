@@ -24,6 +24,9 @@ var (
 	Count  = errors.New("not as many as its kind has")
 )
 
+// Other is met in a right frame, if nobody waits for such an answer.
+var Other = errors.New("not of the session that goes on")
+
 // Met is a fault with the part in which it was met.
 type Met struct {
 	Part string

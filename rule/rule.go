@@ -31,6 +31,9 @@ func IsChar(c rune) bool {
 // IsClient tells whether somebody of this number may write.
 func IsClient(client uint32) bool { return from1(client, api.MaxClient) }
 
+// IsSession tells whether a session may have this number.
+func IsSession(session uint32) bool { return from1(session, api.MaxSession) }
+
 func from1(n uint32, most uint32) bool { return n >= 1 && n <= most }
 
 // RightOp tells what is wrong with an operation; nil, if it is right.
@@ -92,7 +95,7 @@ func frameFault(f api.Frame) error {
 	switch {
 	case f.Kind < api.Ask || f.Kind > api.Give:
 		return fault.In("Kind", fault.Bounds)
-	case !from1(f.Session, api.MaxSession):
+	case !IsSession(f.Session):
 		return fault.In("Session", fault.Bounds)
 	case f.Kind != api.Ask && f.Digest != (api.Digest{}):
 		return fault.In("Digest", fault.Extra)

@@ -34,6 +34,14 @@ func TestIsChar(t *testing.T) {
 	}
 }
 
+func TestIsSession(t *testing.T) {
+	for n, want := range map[uint32]bool{0: false, 1: true, 1<<30 - 1: true, 1 << 30: false, 1<<32 - 1: false} {
+		if IsSession(n) != want {
+			t.Errorf("IsSession(%d) = %v", n, !want)
+		}
+	}
+}
+
 // TestNumbers: a wrong operation is ErrOp by itself, and ErrFrame within a frame, and the cause can be asked for in both.
 func TestNumbers(t *testing.T) {
 	o := api.Op{Kind: api.Insert, Client: 1, Clock: 1, Stamp: 1, Ref: Key(1, 1), Char: 'a'}

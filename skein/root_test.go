@@ -24,21 +24,30 @@ func rankOf(o api.Op) uint64 {
 	return binary.BigEndian.Uint64(sum[:8])
 }
 
-// plainDigest: that of operations in the order of their keys, as the document tells it, by other code than the program's.
-func plainDigest(ops []api.Op) api.Digest {
-	if len(ops) == 0 {
-		return short([]byte{0})
-	}
+// The digests, texts and middles of operations in the order of their keys, as the document tells them, by other code than the program's.
+
+func middleOf(ops []api.Op) int {
 	m := 0
 	for i, o := range ops {
 		if rankOf(o) >= rankOf(ops[m]) {
 			m = i
 		}
 	}
-	ahead, behind := plainDigest(ops[:m]), plainDigest(ops[m+1:])
-	middle := short(append([]byte{2}, joined(opPieces(ops[m]))...))
-	return short(slices.Concat([]byte{1}, ahead[:], middle[:], behind[:]))
+	return m
 }
+
+func middleText(o api.Op) []byte { return append([]byte{2}, joined(opPieces(o))...) }
+
+func plainText(ops []api.Op) []byte {
+	if len(ops) == 0 {
+		return []byte{0}
+	}
+	m := middleOf(ops)
+	ahead, middle, behind := plainDigest(ops[:m]), short(middleText(ops[m])), plainDigest(ops[m+1:])
+	return slices.Concat([]byte{1}, ahead[:], middle[:], behind[:])
+}
+
+func plainDigest(ops []api.Op) api.Digest { return short(plainText(ops)) }
 
 func within(ops []api.Op, lo uint64, hi uint64) []api.Op {
 	var in []api.Op

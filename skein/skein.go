@@ -6,9 +6,12 @@ import (
 
 	"skein/api"
 	"skein/book"
+	"skein/digest"
 	"skein/fault"
 	"skein/rule"
+	"skein/set"
 	"skein/sha"
+	"skein/talk"
 	"skein/wire"
 )
 
@@ -34,6 +37,7 @@ func Unpack(b []byte) (api.Frame, api.Errno) {
 type Replica struct {
 	lock sync.Mutex // for all that is below
 	book book.Book
+	talk talk.Talk
 }
 
 // New makes a replica that knows nothing (P5).
@@ -87,23 +91,62 @@ func (r *Replica) Waiting() int {
 }
 
 // Root tells the digest of a range of keys (P9).
-func (r *Replica) Root(lo uint64, hi uint64) api.Digest {
-	r.lock.Lock()
-	defer r.lock.Unlock()
-	return r.book.Root(lo, hi)
-}
+func (r *Replica) Root(lo uint64, hi uint64) api.Digest { return digest.Of(r.rangeNow(lo, hi)) }
 
 // Start begins a session (P10).
-func (r *Replica) Start(session uint32) api.Errno { return api.OK }
+func (r *Replica) Start(session uint32) api.Errno {
+	if !rule.IsSession(session) {
+		return api.ErrSession
+	}
+	r.lock.Lock()
+	defer r.lock.Unlock()
+	r.talk = talk.New(session)
+	return api.OK
+}
 
 // Tick tells what is to be sent (P10).
-func (r *Replica) Tick() [][]byte { return nil }
+func (r *Replica) Tick() [][]byte {
+	r.lock.Lock()
+	defer r.lock.Unlock()
+	return r.talk.Tick(&r.book)
+}
 
 // Heard takes a frame; what is to be sent then (P11).
-func (r *Replica) Heard(b []byte) ([][]byte, api.Errno) { return nil, api.OK }
+func (r *Replica) Heard(b []byte) ([][]byte, api.Errno) {
+	r.lock.Lock()
+	defer r.lock.Unlock()
+	sent, err := r.talk.Heard(&r.book, b)
+	return sent, fault.Number(err)
+}
 
 // Done tells whether the session has found that there is nothing to do any more (P10).
-func (r *Replica) Done() bool { return false }
+func (r *Replica) Done() bool {
+	r.lock.Lock()
+	defer r.lock.Unlock()
+	return r.talk.Done()
+}
 
 // Clash tells two texts of one digest, by which two replicas may take a range for the same (P12).
-func (r *Replica) Clash(other *Replica, lo uint64, hi uint64) ([]byte, []byte) { return nil, nil }
+func (r *Replica) Clash(other *Replica, lo uint64, hi uint64) ([]byte, []byte) {
+	return digest.Clash(r.rangesWith(other, lo, hi))
+}
+
+// rangesWith: a range of two replicas, as both were at one time. Two locks are never held at once, so that no two who look at each other wait for good; instead the one's range must still be the same when the other's has been looked at. It only ever grows: so it is the same if it is as long, and with MaxOps operations at most that comes to be.
+func (r *Replica) rangesWith(other *Replica, lo uint64, hi uint64) (set.Set, set.Set) {
+	mine := r.rangeNow(lo, hi)
+	for {
+		others := other.rangeNow(lo, hi)
+		now := r.rangeNow(lo, hi)
+		if now.Len() == mine.Len() {
+			return mine, others
+		}
+		mine = now
+	}
+}
+
+// rangeNow is a set that is never changed: who has it needs the lock no more.
+func (r *Replica) rangeNow(lo uint64, hi uint64) set.Set {
+	r.lock.Lock()
+	defer r.lock.Unlock()
+	return r.book.Range(lo, hi)
+}

@@ -17,6 +17,11 @@ func Pack(f api.Frame) ([]byte, error) {
 	if err := rule.RightFrame(f); err != nil {
 		return nil, err
 	}
+	return Bytes(f), nil
+}
+
+// Bytes are those of a right frame.
+func Bytes(f api.Frame) []byte {
 	b := appendVarint([]byte{byte(f.Kind)}, uint64(f.Session))
 	if rule.HasRange(f.Kind) {
 		b = appendVarint(b, f.Lo)
@@ -32,7 +37,7 @@ func Pack(f api.Frame) ([]byte, error) {
 		b = AppendOp(b, o)
 	}
 	check := checkOf(b)
-	return append(b, check[:]...), nil
+	return append(b, check[:]...)
 }
 
 // AppendOp puts a right operation's bytes behind b.
